@@ -1,0 +1,1 @@
+"""Orrery: where objects can be, and what surely follows."""

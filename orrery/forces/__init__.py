@@ -1,0 +1,1 @@
+"""The pull of the body, the pushes of burns, and motions."""

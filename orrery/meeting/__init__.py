@@ -1,0 +1,1 @@
+"""Meetings of two objects, and the screening of a catalogue."""

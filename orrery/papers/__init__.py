@@ -1,0 +1,1 @@
+"""Texts: how lines and numbers are written."""

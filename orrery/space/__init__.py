@@ -1,0 +1,1 @@
+"""Intervals and boxes of integers."""

@@ -1,0 +1,1 @@
+"""States, their parts and steps, journeys and courses."""
