@@ -1,4 +1,4 @@
-"""The data: a body, crafts with their burns and sightings, and contents."""
+"""The data: a body, crafts with their burns and sightings, sites, and contents."""
 
 from orrery.errors import BadArgument
 
@@ -37,6 +37,11 @@ def is_turn(turn):
 def is_box(box, most):
     """True if each interval has its low at most its high, and no number is beyond `most`."""
     return all([-most <= low <= high <= most for low, high in box])
+
+
+def is_drift(number):
+    """True if a number is a drift, otherwise False."""
+    return 0 <= number <= MOST_DRIFT
 
 
 class Body:
@@ -93,7 +98,7 @@ class Craft:
             raise BadArgument("place")
         if not is_box(speed, MOST_SPEED):
             raise BadArgument("speed")
-        if not 0 <= drift <= MOST_DRIFT:
+        if not is_drift(drift):
             raise BadArgument("drift")
         self.name = name
         self.start = start
@@ -102,6 +107,18 @@ class Craft:
         self.drift = drift
         self.burns = tuple(burns)
         self.sightings = tuple(sightings)
+
+
+class Site:
+    """A place on the body, as it is at tick 0."""
+
+    def __init__(self, name, place):
+        if not is_name(name):
+            raise BadArgument("name")
+        if place == (0, 0, 0) or not all([-MOST_PLACE <= number <= MOST_PLACE for number in place]):
+            raise BadArgument("place")
+        self.name = name
+        self.place = place
 
 
 class Contents:
@@ -117,3 +134,27 @@ class Contents:
         self.fineness = fineness
         self.crafts = tuple(crafts)
         self.sites = tuple(sites)
+
+
+def craft_data(craft):
+    """The data of a craft, a tuple of tuples and plain values."""
+    burns = tuple([(burn.begin, burn.end, burn.push) for burn in craft.burns])
+    sightings = tuple([(sighting.at, sighting.place) for sighting in craft.sightings])
+    return (craft.name, craft.start, craft.place, craft.speed, craft.drift, burns, sightings)
+
+
+def body_data(body):
+    """The data of a body, a tuple."""
+    return (body.mu, body.oblateness, body.turn)
+
+
+def contents_data(contents):
+    """The data of contents, a tuple of tuples and plain values."""
+    crafts = tuple([craft_data(craft) for craft in contents.crafts])
+    sites = tuple([(site.name, site.place) for site in contents.sites])
+    return (body_data(contents.body), contents.stride, contents.fineness, crafts, sites)
+
+
+def same_craft(first, second):
+    """True if the data of two crafts are equal, otherwise False."""
+    return craft_data(first) == craft_data(second)

@@ -40,6 +40,19 @@ FUNCTIONS = {
         "write_line": "words", "number_of": "word", "numbers_of": "words", "interval_of": "low high",
         "box_of": "numbers", "box_numbers": "box",
     },
+    "orrery.papers.certificates": {"certify": "contents craft until", "certificate_text": "certificate"},
+    "orrery.papers.reading": {"read_certificate": "text"},
+    "orrery.papers.checker": {"refused_at": "certificate", "accepted": "certificate"},
+    "orrery.data": {
+        "craft_data": "craft", "body_data": "body", "contents_data": "contents", "same_craft": "first second",
+    },
+    "orrery.book.names": {"craft_of": "contents name", "site_of": "contents name"},
+    "orrery.book.edits": {"apply_edit": "contents edit"},
+    "orrery.book.differences": {"differences": "before after"},
+    "orrery.book.saving": {"saved_text": "contents", "read_saved": "text"},
+    "orrery.questions.tokens": {"tokens": "text"},
+    "orrery.questions.expressions": {"parse_expression": "text", "expression_text": "expression"},
+    "orrery.questions.reading": {"read_question": "text", "last_tick": "question"},
 }
 
 CLASSES = {
@@ -48,11 +61,16 @@ CLASSES = {
     "orrery.ways.courses": {"Piece": "begin end parts", "Course": "pieces ending"},
     "orrery.data": {
         "Body": "mu oblateness turn", "Burn": "begin end push", "Sighting": "at place",
-        "Craft": "name start place speed drift burns sightings", "Contents": "body stride fineness crafts sites",
+        "Craft": "name start place speed drift burns sightings", "Site": "name place",
+        "Contents": "body stride fineness crafts sites",
     },
+    "orrery.papers.certificates": {"Certificate": "body fineness craft claims"},
+    "orrery.book.catalogue": {"Catalogue": "contents"},
 }
 
-METHODS = {"Moment": ["place", "speed"], "Journey": ["__iter__", "moment"], "Piece": ["during"]}
+METHODS = {
+    "Moment": ["place", "speed"], "Journey": ["__iter__", "moment"], "Piece": ["during"], "Catalogue": ["edit", "undo"],
+}
 
 
 def defined(module):

@@ -150,8 +150,19 @@ class LanguageTest(unittest.TestCase):
                     kinds = (ast.ImportFrom, ast.FunctionDef, ast.ClassDef, ast.Assign)
                     self.assertIsInstance(node, kinds, path)
 
+    def test_names_that_patterns_capture(self):
+        for path, node in nodes():
+            if not isinstance(node, ast.FunctionDef):
+                continue
+            captured = {inner.name for inner in ast.walk(node) if isinstance(inner, ast.MatchAs) and inner.name}
+            others = {inner.arg for inner in ast.walk(node) if isinstance(inner, ast.arg)}
+            others |= {inner.id for inner in ast.walk(node)
+                       if isinstance(inner, ast.Name) and isinstance(inner.ctx, ast.Store)}
+            self.assertEqual(sorted(captured & others), [], (path, node.name))
+            self.assertEqual([name for name in captured if hasattr(builtins, name) or name in UNUSED], [], path)
+
     def test_no_word_of_other_libraries(self):
-        words = "typing_extensions Enum Flag Generic Protocol ABC namedtuple NamedTuple dataclass contextmanager _wall"
+        words = r"\btype\b typing_extensions Enum Flag Generic Protocol ABC namedtuple NamedTuple dataclass contextmanager _wall"
         for path in FILES:
             for word in words.split():
                 self.assertIsNone(re.search(word, path.read_text()), (path, word))

@@ -3,7 +3,7 @@
 import unittest
 
 from orrery.papers.lines import (
-    box_numbers, box_of, interval_of, number_of, numbers_of, write_line,
+    box_numbers, box_of, digits_of, interval_of, number_line, number_of, numbers_of, write_line,
 )
 
 
@@ -12,6 +12,15 @@ class WriteTest(unittest.TestCase):
         self.assertEqual(write_line(["orrery", "certificate"]), "orrery certificate\n")
         self.assertEqual(write_line(["claim", "12"]), "claim 12\n")
         self.assertEqual(write_line(["one"]), "one\n")
+
+
+    def test_numbers(self):
+        self.assertEqual(number_line("seen", [5, -1, 0, 10 ** 15]), "seen 5 -1 0 1000000000000000\n")
+        for number in (0, 1, -1, 10, -10, 9 ** 70, 10 ** 64 - 1, 10 ** 64, 10 ** 64 + 1, -10 ** 64, 10 ** 128,
+                       7 ** 400):
+            self.assertEqual(digits_of(number), str(number))
+        self.assertEqual(digits_of(10 ** 5000), "1" + "0" * 5000)
+        self.assertEqual(digits_of(-10 ** 5000 - 5), "-1" + "0" * 4999 + "5")
 
 
 class NumberTest(unittest.TestCase):

@@ -1,1 +1,1 @@
-"""Texts: how lines and numbers are written."""
+"""Texts of lines, and certificates: how they are made, written, read and checked."""

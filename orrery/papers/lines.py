@@ -2,11 +2,32 @@
 
 DIGITS = "0123456789"
 MOST_DIGITS = 60
+PORTION_DIGITS = 64
+PORTION = 10 ** 64
 
 
 def write_line(words):
     """A line of words, with the line feed behind it."""
     return " ".join(words) + "\n"
+
+
+def number_line(word, numbers):
+    """A line of a word and numbers."""
+    return write_line([word] + [digits_of(number) for number in numbers])
+
+
+def digits_of(number):
+    """The text of a number, however great it is."""
+    # Python itself refuses to write a number of some thousand digits at once.
+    if number < 0:
+        return "-" + digits_of(-number)
+    portions = []
+    left = number
+    while left >= PORTION:
+        left, portion = divmod(left, PORTION)
+        portions.append(str(portion).zfill(PORTION_DIGITS))
+    portions.append(str(left))
+    return "".join(reversed(portions))
 
 
 def number_of(word):

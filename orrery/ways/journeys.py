@@ -68,10 +68,10 @@ def traced(body, fineness, craft, until):
     found = parts_of(State(craft.place, craft.speed), fineness)
     for at in range(craft.start, until + 1):
         if at > craft.start:
-            found = _stepped(body, craft, at - 1, moments[-1].states)
+            found = steps_of(body, craft, at - 1, moments[-1].states)
         if found is None:
             return (Journey(moments, "lost", at), sources)
-        left = _left(craft, at, found)
+        left = left_of(craft, at, found)
         if not left:
             return (Journey(moments, "void", at), sources)
         moments.append(Moment(at, [state for _, state in left]))
@@ -79,7 +79,7 @@ def traced(body, fineness, craft, until):
     return (Journey(moments, "whole", None), sources)
 
 
-def _stepped(body, craft, at, states):
+def steps_of(body, craft, at, states):
     """The steps of states from a tick to the next one, or None if one of them is lost."""
     push = push_at(craft, at)
     found = []
@@ -91,7 +91,7 @@ def _stepped(body, craft, at, states):
     return found
 
 
-def _left(craft, at, states):
+def left_of(craft, at, states):
     """The pairs (number, state) of the states that the sighting at a tick leaves."""
     box = sighting_at(craft, at)
     left = []

@@ -1,0 +1,1 @@
+"""Catalogues: how their contents are edited, compared, saved and read."""

@@ -1,0 +1,1 @@
+"""Questions over time: their tokens, expressions and what these stand for."""
