@@ -44,6 +44,14 @@ def is_drift(number):
     return 0 <= number <= MOST_DRIFT
 
 
+def check_span(begin, end):
+    """Raises an error if two numbers are not the first and the last tick of a span."""
+    if not is_tick(begin):
+        raise BadArgument("begin")
+    if not is_tick(end) or end < begin:
+        raise BadArgument("end")
+
+
 class Body:
     """A body that pulls and turns."""
 

@@ -74,3 +74,39 @@ def seen_at(motion, start, at, half):
 def rows(states):
     """States as pairs of boxes, which can be compared."""
     return [(state.place, state.speed) for state in states]
+
+
+FAR = 10 ** 12
+# Where no coordinate is above 0, its pull is so little that it is rounded to 0: all goes straight on there.
+FEEBLE = Body(1, 0, (1, 0, 1))
+
+
+def glider(name="a", start=0, place=(0, 0, 0), rate=(0, 0, 0), half=0, sightings=(), burns=()):
+    """A craft around a place as seen from (-FAR, 0, 0), none of whose coordinates gets above 0 there.
+
+    Under the feeble body it goes on by its rate at each tick; of its place each number is known up to `half`.
+    """
+    x, y, z = place
+    speed = tuple([(number, number) for number in rate])
+    return a_craft(name, start, cube(x - FAR, y, z, half), speed, 0, burns, sightings)
+
+
+def by_tick(spans):
+    """The words of spans (first tick, last tick, word), by tick; no tick may be in two of them."""
+    told = {}
+    for first, last, word in spans:
+        for at in range(first, last + 1):
+            assert at not in told
+            told[at] = word
+    return told
+
+
+def as_runs(words):
+    """The longest spans of neighbouring ticks with the same word."""
+    spans = []
+    for at, word in sorted(words.items()):
+        if spans and spans[-1][1:] == (at - 1, word):
+            spans[-1] = (spans[-1][0], at, word)
+        else:
+            spans.append((at, at, word))
+    return spans

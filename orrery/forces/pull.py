@@ -32,15 +32,25 @@ def pull_over(body, box):
     s = square_length(box)
     if s[0] == 0:
         return None
+    d = multiply(s, root(s))
     x, y, z = box
+    if body.oblateness == 0:
+        # The bulge then adds nothing, and crafts take very many steps.
+        return (_toward(body, x, d), _toward(body, y, d), _toward(body, z, d))
+    e = multiply(multiply(s, s), d)
     lifted = scaled(square(z), 5)
     flat = subtract(lifted, s)
     upright = subtract(lifted, scaled(s, 3))
-    return (_part_over(body, x, flat, s), _part_over(body, y, flat, s), _part_over(body, z, upright, s))
+    return (
+        add(_toward(body, x, d), _bulging(body, x, flat, e)),
+        add(_toward(body, y, d), _bulging(body, y, flat, e)),
+        add(_toward(body, z, d), _bulging(body, z, upright, e)),
+    )
 
 
-def _part_over(body, c, bulge, s):
-    d = multiply(s, root(s))
-    e = multiply(multiply(s, s), d)
-    toward = quotient(scaled(c, -body.mu), d)
-    return add(toward, quotient(scaled(multiply(c, bulge), body.oblateness), e))
+def _toward(body, c, d):
+    return quotient(scaled(c, -body.mu), d)
+
+
+def _bulging(body, c, bulge, e):
+    return quotient(scaled(multiply(c, bulge), body.oblateness), e)

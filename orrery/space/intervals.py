@@ -27,8 +27,8 @@ def scaled(a, n):
 
 def multiply(a, b):
     """The product of two intervals."""
-    products = [a[0] * b[0], a[0] * b[1], a[1] * b[0], a[1] * b[1]]
-    return (min(products), max(products))
+    first, second, third, fourth = a[0] * b[0], a[0] * b[1], a[1] * b[0], a[1] * b[1]
+    return (min(first, second, third, fourth), max(first, second, third, fourth))
 
 
 def square(a):

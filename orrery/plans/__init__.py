@@ -1,0 +1,1 @@
+"""Plans: of contacts, of networks of them, and of burns that avoid others."""

@@ -1,0 +1,1 @@
+"""Sites, which turn with the body, and the passes of crafts over them."""
