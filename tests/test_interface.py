@@ -50,9 +50,47 @@ FUNCTIONS = {
     "orrery.book.edits": {"apply_edit": "contents edit"},
     "orrery.book.differences": {"differences": "before after"},
     "orrery.book.saving": {"saved_text": "contents", "read_saved": "text"},
+    "orrery.stations.turning": {"rounded": "interval divisor", "unit_power": "turn ticks"},
+    "orrery.stations.sites": {"site_at": "body site tick", "site_over": "body site begin end"},
+    "orrery.stations.passes": {
+        "elevation": "box site_box mask", "passes": "contents craft site begin end mask",
+    },
+    "orrery.plans.contacts": {"plan": "contacts gap", "shows_best": "contacts gap choice prices"},
+    "orrery.plans.networks": {"network": "contacts gap"},
+    "orrery.plans.found": {"contacts_of": "contents begin end mask least weights"},
+    "orrery.plans.avoiding": {"avoid": "contents name begin end distance keeps burns"},
+    "orrery.questions.spans": {
+        "joined": "spans", "common": "first second", "earlier_begins": "spans ticks", "later_ends": "spans ticks",
+        "earlier_ends": "spans ticks", "later_begins": "spans ticks", "negated": "line", "both": "first second",
+        "either": "first second", "soon": "ticks line", "ahead": "ticks line", "lately": "ticks line",
+        "behind": "ticks line", "until": "ticks first second", "throughout": "line begin end",
+        "first_tick": "line begin end", "rises": "line begin end",
+    },
+    "orrery.questions.quantities": {
+        "combined": "word first second", "less": "first second", "at_most": "first second",
+    },
+    "orrery.questions.answers": {"ask": "contents text"},
+    "orrery.needs.needs": {
+        "halved": "interval count", "halved_craft": "craft what count",
+        "need_far": "contents first second begin end distance", "need_thin": "contents craft at most",
+        "need_pass": "contents craft site begin end mask",
+    },
+    "orrery.light.shadow": {
+        "light_of": "box way radius", "way_over": "sun begin end", "light": "contents craft begin end radius sun",
+    },
+    "orrery.light.battery": {
+        "charge_after": "battery charge spans",
+        "charge": "contents craft begin end radius sun battery before",
+    },
     "orrery.questions.tokens": {"tokens": "text"},
     "orrery.questions.expressions": {"parse_expression": "text", "expression_text": "expression"},
     "orrery.questions.reading": {"read_question": "text", "last_tick": "question"},
+}
+
+VALUES = {
+    ("orrery.ways.steps", "LIMIT"): 10 ** 40,
+    ("orrery.stations.turning", "SCALE"): 10 ** 18,
+    ("orrery.stations.passes", "MOST_MASK"): 10 ** 9,
 }
 
 CLASSES = {
@@ -87,6 +125,10 @@ class InterfaceTest(unittest.TestCase):
                 self.assertIsInstance(nodes.get(name), ast.FunctionDef, (module, name))
                 told = inspect.signature(getattr(importlib.import_module(module), name))
                 self.assertEqual(list(told.parameters), arguments.split(), name)
+
+    def test_values(self):
+        for (module, name), value in VALUES.items():
+            self.assertEqual(getattr(importlib.import_module(module), name), value)
 
     def test_classes(self):
         for module, classes in CLASSES.items():

@@ -45,6 +45,17 @@ def spans_of(stretches, distance):
     return [_span(run) for run in runs]
 
 
+def first_near(one, other, start, end, distance):
+    """The first span of a meeting that is not "impossible", or None.
+
+    `one` and `other` are journeys up to `end`; `start` is not before the start of either of them.
+    """
+    for span in spans_of(stretches_between(one, other, start, end), distance):
+        if span[2] != "impossible":
+            return span
+    return None
+
+
 def _stretches_of(contents, first, second, begin, end):
     """The stretches of the ticks of two crafts from `begin` to `end` at which both have begun."""
     one = journey(contents.body, contents.fineness, first, end)

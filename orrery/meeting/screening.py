@@ -1,7 +1,6 @@
 """Screening: which pairs of a catalogue can come within a distance."""
 
-from orrery.meeting.meetings import spans_of
-from orrery.meeting.meetings import stretches_between
+from orrery.meeting.meetings import first_near
 from orrery.ways.journeys import journey
 
 
@@ -13,15 +12,7 @@ def screen(contents, begin, end, distance):
     for i in range(len(crafts)):
         for j in range(i + 1, len(crafts)):
             start = max(begin, crafts[i].start, crafts[j].start)
-            stretches = stretches_between(journeys[i], journeys[j], start, end)
-            span = _first_told(spans_of(stretches, distance))
+            span = first_near(journeys[i], journeys[j], start, end, distance)
             if span is not None:
                 told.append((crafts[i].name, crafts[j].name, span))
     return told
-
-
-def _first_told(spans):
-    for span in spans:
-        if span[2] != "impossible":
-            return span
-    return None

@@ -1,0 +1,1 @@
+"""Light and shadow, and batteries."""

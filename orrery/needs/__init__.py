@@ -1,0 +1,1 @@
+"""What narrower data would decide."""
