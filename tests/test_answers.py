@@ -94,14 +94,26 @@ def slow_known(contents, last, bound):
     return line if bound else quantity
 
 
-def slow_times(contents, begin, end, text):
-    """The answer to times, by ticks."""
+def slow_answers(contents, begin, end, text):
+    """The answers to the questions about a condition, by ticks."""
     question = read_question(f"times({begin}, {end}, {text})")
-    yes, no = slow_known(contents, last_tick(question), True)(question[3], {})
-    told = []
-    for spans in (yes, no):
-        told.append(lines.joined([(max(a, begin), min(b, end)) for a, b in spans]))
-    return tuple(told)
+    line = slow_known(contents, last_tick(question), True)(question[3], {})
+    asked = range(begin, end + 1)
+    yes, no = [{at for a, b in spans for at in range(max(a, begin), min(b, end) + 1)} for spans in line]
+
+    def throughout(yes, no):
+        return "sure" if yes >= set(asked) else "impossible" if no else "unknown"
+
+    exchanged = {"sure": "impossible", "impossible": "sure", "unknown": "unknown"}
+    open_ticks = [at for at in asked if at not in no]
+    first = (False, min(open_ticks), min(yes, default=None)) if open_ticks else (True, None, None)
+    begins = sorted([(at, 0) for at in no if at - 1 not in no] + [(at, 1) for at in yes if at - 1 not in yes])
+    words = "".join(str(word) for _, word in begins)
+    times = tuple(lines.joined([(at, at) for at in ticks]) for ticks in (yes, no))
+    return {
+        "throughout": throughout(yes, no), "never": throughout(no, yes), "sometime": exchanged[throughout(no, yes)],
+        "first": first, "rises": words.count("01"), "times": times,
+    }
 
 
 class Test(unittest.TestCase):
@@ -306,6 +318,14 @@ class ConditionTest(Test):
         self.times(held, 0, 9, f"behind(1, soon(2, {f}))", [(0, 4)], [(5, 9)])
         self.times(held, 0, 9, f"behind(2, {f})", [(2, 4)], [(5, 9)])
 
+    def test_numbers_and_every_begin_at_tick_0(self):
+        for text in ("(1 < 2)", "every(p, f())", "!some(p, f())"):
+            self.times(sky(), 0, 9, f"behind(1, {text})", [(1, 9)], [])
+            self.check(sky(), f"at(100000, ahead(1, {text}))", "unknown")
+        # Soon holds below 0, but every is not known to.
+        held = sky(glider("a", 0, (0, -20, 0)))
+        self.times(held, 0, 9, "behind(1, every(p, soon(2, (y(p) < 0))))", [(1, 9)], [])
+
     def test_what_is_known_beyond_the_span_counts(self):
         held = sky(glider("a", 0, (0, -20, 0), (0, 1, 0)))
         self.times(held, 0, 3, "soon(4, (y(a) >= -15))", [(1, 3)], [(0, 0)])
@@ -382,10 +402,13 @@ class ConditionTest(Test):
             held = sky(*crafts, stride=rng.randint(1, 3), fineness=number % 2)
             text = f"some(p, {condition(3)})"
             begin = rng.randint(0, 6)
-            end = begin + rng.randint(0, 12)
-            told = ask(held, f"times({begin}, {end}, {text})")
-            self.assertEqual(told, slow_times(held, begin, end, text), text)
-            known += bool(told[0]) + bool(told[1])
+            end = begin + rng.choice([0, rng.randint(0, 12)])
+            wanted = slow_answers(held, begin, end, text)
+            for word, answer in wanted.items():
+                self.assertEqual(ask(held, f"{word}({begin}, {end}, {text})"), answer, (word, text))
+            if begin == end:
+                self.assertEqual(ask(held, f"at({end}, {text})"), wanted["throughout"], text)
+            known += bool(wanted["times"][0]) + bool(wanted["times"][1])
         self.assertGreater(known, 40)
 
 

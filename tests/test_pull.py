@@ -3,6 +3,7 @@
 import itertools
 import random
 import unittest
+from math import isqrt
 
 from orrery.forces.pull import pull, pull_over
 from orrery.space.boxes import box_has, point_box
@@ -36,7 +37,48 @@ class PointTest(unittest.TestCase):
                 self.assertEqual(pull(body, p), slow_pull(body, p))
 
 
+def product_of(a, b):
+    ends = [p * q for p in a for q in b]
+    return (min(ends), max(ends))
+
+
+def sum_of(a, b):
+    return (a[0] + b[0], a[1] + b[1])
+
+
+def square_of(a):
+    ends = [a[0] ** 2, a[1] ** 2]
+    return (0 if a[0] <= 0 <= a[1] else min(ends), max(ends))
+
+
+def quotient_of(a, d):
+    return (min(a[0] // end for end in d), max(a[1] // end for end in d))
+
+
+def slow_pull_over(body, box):
+    """Point [15], interval by interval; no member of the box is the centre."""
+    x, y, z = box
+    s = sum_of(sum_of(square_of(x), square_of(y)), square_of(z))
+    d = product_of(s, (isqrt(s[0]), isqrt(s[1])))
+    e = product_of(product_of(s, s), d)
+    pulled = []
+    for c, k in ((x, 1), (y, 1), (z, 3)):
+        bulge = sum_of(product_of(square_of(z), (5, 5)), product_of(s, (-k, -k)))
+        n = product_of(product_of(c, bulge), (body.oblateness,) * 2)
+        pulled.append(sum_of(quotient_of(product_of(c, (-body.mu,) * 2), d), quotient_of(n, e)))
+    return tuple(pulled)
+
+
 class BoxTest(unittest.TestCase):
+    def test_in_the_words_of_the_point(self):
+        rng = random.Random(6)
+        for _ in range(400):
+            most = rng.choice([5, 30, 10 ** 6, 10 ** 20])
+            box = tuple(tuple(sorted(rng.randint(-most, most) for _ in range(2))) for _ in range(3))
+            body = a_body(rng.randint(1, 10 ** 9), rng.choice([0, 1, 1, rng.randint(2, 10 ** 12)]))
+            wanted = None if all(low <= 0 <= high for low, high in box) else slow_pull_over(body, box)
+            self.assertEqual(pull_over(body, box), wanted)
+
     def test_the_centre_in_the_box(self):
         self.assertIsNone(pull_over(a_body(), cube(0, 0, 0, 0)))
         self.assertIsNone(pull_over(a_body(), ((-3, 0), (0, 2), (-1, 1))))

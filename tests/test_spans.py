@@ -153,6 +153,10 @@ class LinesTest(unittest.TestCase):
         self.assertEqual(either(LINE, OTHER), ([(0, 5), (8, 12)], [(14, 15)]))
         self.assertEqual(both(LINE, NOTHING), ([], [(5, 6), (12, 20)]))
         self.assertEqual(either(NOTHING, LINE), ([(0, 3), (8, 9)], []))
+        # What comes out is joined.
+        parts = ([(5, 9), (0, 4)], [(20, 21), (15, 19)])
+        self.assertEqual(both(parts, ([(0, 9)], [])), ([(0, 9)], [(15, 21)]))
+        self.assertEqual(either(parts, ([], [(15, 30)])), ([(0, 9)], [(15, 21)]))
 
     def test_soon_ahead_lately_and_behind(self):
         self.assertEqual(soon(1, LINE), ([(-1, 3), (7, 9)], [(5, 5), (12, 19)]))
@@ -309,6 +313,9 @@ class RisesTest(unittest.TestCase):
         self.assertEqual(rises(([(3, 5)], [(3, 4)]), 0, 9), 1)
         self.assertEqual(rises(([(3, 5)], [(0, 4)]), 4, 9), 1)
         self.assertEqual(rises(([(3, 5), (9, 9)], [(3, 4)]), 0, 9), 1)
+        # Only the begins of joined spans count.
+        self.assertEqual(rises(([(1, 2), (3, 4)], [(2, 2)]), 0, 9), 0)
+        self.assertEqual(rises(([(2, 2), (7, 7)], [(0, 2), (3, 5)]), 0, 9), 1)
 
     def test_what_holds_tick_by_tick(self):
         rng = random.Random(25)

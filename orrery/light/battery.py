@@ -24,9 +24,9 @@ def charge_after(battery, charge, spans):
     return (least, greatest, lowest)
 
 
-def _within(charge, most):
-    # Within a span all ticks go the same way: a bound that is reached is not left again.
-    return max(0, min(charge, most))
+def _within(number, most):
+    # In a span the charge goes the same way at all ticks: a bound that is reached is not left again.
+    return max(0, min(number, most))
 
 
 def charge(contents, craft, begin, end, radius, sun, battery, before):

@@ -2,16 +2,17 @@
 
 from orrery.book.edits import apply_edit
 from orrery.book.names import craft_of
-from orrery.book.names import site_of
 from orrery.data import check_span
 from orrery.errors import BadArgument
 from orrery.errors import BeforeStart
 from orrery.errors import BurnsOverlap
-from orrery.errors import NoSuchSite
 from orrery.errors import TooMany
 from orrery.meeting.meetings import first_near
 from orrery.stations.passes import check_mask
-from orrery.stations.passes import passes
+from orrery.stations.passes import passes_of
+from orrery.stations.sites import Ground
+from orrery.stations.turning import Turning
+from orrery.ways.courses import course
 from orrery.ways.journeys import journey
 
 MOST_KEEPS = 10
@@ -27,10 +28,10 @@ def avoid(contents, name, begin, end, distance, keeps, burns):
     _check_keeps(keeps)
     if not 1 <= len(burns) <= MOST_BURNS:
         raise BadArgument("burns")
-    others = Others(contents, name, begin, end, distance)
+    demands = Demands(contents, name, begin, end, distance, keeps)
     hindrances = []
     for number, burn in enumerate(burns):
-        hindrance = _hindrance(contents, name, burn, others, keeps)
+        hindrance = _hindrance(contents, name, burn, demands)
         if hindrance is None:
             return (number, hindrances)
         hindrances.append(hindrance)
@@ -45,26 +46,27 @@ def _check_keeps(keeps):
         check_mask(mask)
 
 
-class Others:
-    """The crafts of contents but one, from a tick to another one, and a distance to keep from them.
+class Demands:
+    """What is asked of the craft of a name: to keep away from all others, and to keep contacts.
 
-    Their journeys are kept: no burn of the one craft changes them.
+    What no burn of the craft changes, the journeys of the others and the ground of sites, is found once.
     """
 
-    def __init__(self, contents, name, begin, end, distance):
+    def __init__(self, contents, name, begin, end, distance, keeps):
         self._contents = contents
-        self._name = name
+        self._others = [craft for craft in contents.crafts if craft.name != name]
         self._begin = begin
         self._end = end
         self._distance = distance
+        self._keeps = list(keeps)
         self._journeys = {}
+        turning = Turning(contents.body.turn)
+        self._grounds = {site.name: Ground(turning, site) for site in contents.sites}
 
     def nearest(self, craft):
         """The pair (name, first tick) of the first other craft that a craft comes near to, or None."""
         told = self._journey_of(craft)
-        for other in self._contents.crafts:
-            if other.name == self._name:
-                continue
+        for other in self._others:
             if other.name not in self._journeys:
                 self._journeys[other.name] = self._journey_of(other)
             start = max(self._begin, craft.start, other.start)
@@ -76,8 +78,27 @@ class Others:
     def _journey_of(self, craft):
         return journey(self._contents.body, self._contents.fineness, craft, self._end)
 
+    def first_lost(self, craft):
+        """The number of the first contact that a craft does not keep, or None."""
+        if not self._keeps:
+            return None
+        # The pieces that have ticks of one contact are the same in a course that goes on behind it.
+        last = max([end for _, _, end, _ in self._keeps])
+        pieces = course(self._contents, craft, last).pieces
+        for number, keep in enumerate(self._keeps):
+            if not self._is_kept(pieces, keep):
+                return number
+        return None
 
-def _hindrance(contents, name, burn, others, keeps):
+    def _is_kept(self, pieces, keep):
+        name, begin, end, mask = keep
+        ground = self._grounds.get(name)
+        if ground is None:
+            return False
+        return passes_of(pieces, ground, begin, end, mask) == [(begin, end, "sure")]
+
+
+def _hindrance(contents, name, burn, demands):
     """The hindrance of a burn, or None."""
     try:
         changed = apply_edit(contents, ("add burn", name, burn))
@@ -88,20 +109,10 @@ def _hindrance(contents, name, burn, others, keeps):
     except TooMany:
         return ("refused", "too many", None)
     craft = craft_of(changed, name)
-    near = others.nearest(craft)
+    near = demands.nearest(craft)
     if near is not None:
         return ("near", near[0], near[1])
-    for number, keep in enumerate(keeps):
-        if not _is_kept(changed, craft, keep):
-            return ("lost", number, None)
+    lost = demands.first_lost(craft)
+    if lost is not None:
+        return ("lost", lost, None)
     return None
-
-
-def _is_kept(contents, craft, keep):
-    """True if a craft keeps a contact, otherwise False."""
-    name, begin, end, mask = keep
-    try:
-        site = site_of(contents, name)
-    except NoSuchSite:
-        return False
-    return passes(contents, craft, site, begin, end, mask) == [(begin, end, "sure")]

@@ -28,8 +28,7 @@ def shows_best(contacts, gap, choice, prices):
     check_gap(gap)
     check_contacts(choice, MOST_CONTACTS)
     _check_prices(prices)
-    known = set(contacts)
-    if not all([contact in known for contact in choice]) or not _is_choice(choice, gap):
+    if not _are_among(choice, contacts) or not _is_choice(choice, gap):
         return False
     if not all([_is_paid(contact, gap, prices) for contact in contacts]):
         return False
@@ -133,6 +132,15 @@ def _prices(found):
         prices.append((tick, weight - before))
         before = weight
     return prices
+
+
+def _are_among(some, contacts):
+    """True if each contact of a list is in another list, otherwise False."""
+    known = set(contacts)
+    for contact in some:
+        if contact not in known:
+            return False
+    return True
 
 
 def _is_choice(contacts, gap):

@@ -29,6 +29,7 @@ class Known:
         self._contents = contents
         self._turning = Turning(contents.body.turn)
         self._pieces = {}
+        self._boxes = {}
         self._grounds = {}
         self._told = {}
 
@@ -105,7 +106,10 @@ class Known:
 
     def _boxes_of(self, name):
         """The tuples (begin, end, box) of the pieces of a craft."""
-        return [(piece.begin, piece.end, piece.during()) for piece in self._pieces_of(name)]
+        if name not in self._boxes:
+            pieces = self._pieces_of(name)
+            self._boxes[name] = [(piece.begin, piece.end, piece.during()) for piece in pieces]
+        return self._boxes[name]
 
     def _pieces_of(self, name):
         if name not in self._pieces:
