@@ -21,7 +21,7 @@ def elevation(box, site_box, mask):
     low, high = inner_product(away, site_box)
     far = square_length(away)
     deep = square_length(site_box)
-    # What follows is compared in units of 1 / MOST_MASK, twice.
+    # Squares of sines are compared, and the mask tells a sine in units of 1 / MOST_MASK.
     unit = MOST_MASK * MOST_MASK
     if low >= 0 and mask * mask * far[1] * deep[1] <= unit * low * low:
         return "sure"
