@@ -343,6 +343,17 @@ class ConditionTest(Test):
         self.times(held, 0, 9, "every(p, some(q, (y(q) >= (y(p) + 2))))", [], [(2, 9)])
         self.times(held, 2, 9, "some(p, every(q, (y(q) <= y(p))))", [(2, 9)], [])
 
+    def test_many_names_that_are_not_used(self):
+        crafts = [glider(f"c{number:02d}", 0, (0, -20 - number, 0)) for number in range(20)]
+        held = sky(*crafts)
+        inner = "(y(p) < -38)"
+        for number in range(16):
+            inner = f"{['some', 'every'][number % 2]}({'p' if number == 3 else 'q'}, {inner})"
+        # The fourth one from within tells the name that is used.
+        self.check(held, f"at(0, {inner})", "impossible")
+        self.check(held, f"at(0, {inner.replace('every(p', 'some(p')})", "sure")
+        self.nothing(held, "at(0, some(p, every(q, nonsense(r))))", "nonsense")
+
     def test_every_is_known_up_to_the_last_tick_alone(self):
         held = sky(glider("a", 0, (0, -20, 0), (0, 0, 0), 0, (), [Burn(0, 100000, STILL)]))
         # Burning goes beyond the last tick, 5; every does not.

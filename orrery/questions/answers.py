@@ -110,9 +110,22 @@ def _shifted(word, ticks, line):
 def _every(known, name, inner, told):
     """The line of: a condition holds for every craft in place of a name."""
     line = ([(0, known.last)], [])
-    for craft in known.crafts:
+    # Where the name is not used, all crafts come to the same; so a question of many such names ends, too.
+    crafts = known.crafts if _uses(inner, name) else known.crafts[:1]
+    for craft in crafts:
         line = both(line, _line(known, inner, {**told, name: craft.name}))
     return line
+
+
+def _uses(asked, name):
+    """True if a name that is told ahead of a condition or quantity is used in it, otherwise False."""
+    match asked:
+        case ("fact" | "value", _, names):
+            return name in names
+        case ("some" | "every", other, inner):
+            return other != name and _uses(inner, name)
+        case _:
+            return any([_uses(part, name) for part in asked if isinstance(part, tuple)])
 
 
 def _enclosures(known, quantity, told):
